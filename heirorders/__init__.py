@@ -1,0 +1,1 @@
+"""Estates of people who died in an unknown order."""

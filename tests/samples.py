@@ -1,0 +1,32 @@
+"""Values that several tests pass."""
+
+from heirorders import errors
+from heirorders.families import Family
+from heirorders.wills import Will
+
+LINES = ["person ann 12", "person bob 0", "person cid 6", "person dan 0", "person eve 0",
+         "will ann 1 bob > dan", "will bob 1 eve", "will cid 1 ann > eve"]
+
+TEXT = "\n".join(LINES)
+
+
+def nested(value, depth, kind):
+    """Return the value within so many lists or tuples."""
+    for _ in range(depth):
+        value = kind([value])
+    return value
+
+
+def odd_values(*right):
+    """Return values of all kinds, nested up to eight deep, but not those that are right where they go."""
+    will = Will([(1, [["bob"]])])
+    family = Family([("ann", 1)])
+    simple = [0, 1, -1, 10 ** 9, True, False, None, "", "crown", "Ann", "annabe", "a1", "zoe", " ann", "ann\n",
+              "1 bob", "person ann 1", will, family, errors.NoName("ann"), errors.Mismatch()]
+    short = [[], (), [None], (1,), ("ann",), ["ann"], ("ann", "bob", "cid"), ["ann", 1], ["ann", "bob"], [("ann",)],
+             [("ann", "bob", "cid")], [["ann", 1]], [["ann", "bob"]], (will, family), [[], ()], ("ann", "ann"),
+             (1, []), ("ann", None), (None, 1), (True, []), ("ann", True)]
+    deep = [nested(value, 8, kind) for value in (1, "ann", None, True, will, family) for kind in (list, tuple)]
+    mixed = [[(1, [will, ("bob", [True])]), (None, "ann")], ([[[["bob"]]]], ((((1,),),),))]
+    known = [repr(value) for value in right]
+    return [value for value in simple + short + deep + mixed if repr(value) not in known]

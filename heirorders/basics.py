@@ -1,10 +1,12 @@
-"""What several modules need: the kinds of values, numbers in texts, and fractions."""
+"""What several modules need: the kinds of values, numbers in texts, fractions, and names in an order."""
 
 from math import gcd
 
 CROWN = "crown"
 
 LONGEST_NAME = 5
+
+ZERO = (0, 1)
 
 
 def is_integer(value):
@@ -55,3 +57,39 @@ def lowest(above, below):
 def plus(left, right):
     """Return the sum of two values that are pairs."""
     return lowest(left[0] * right[1] + right[0] * left[1], left[1] * right[1])
+
+
+def times(left, right):
+    """Return the product of two values that are pairs."""
+    return lowest(left[0] * right[0], left[1] * right[1])
+
+
+def apart(left, right):
+    """Return how far two values that are pairs are from each other."""
+    return lowest(abs(left[0] * right[1] - right[0] * left[1]), left[1] * right[1])
+
+
+def is_less(left, right):
+    """Tell whether the first of two values that are pairs is the smaller one."""
+    return left[0] * right[1] < right[0] * left[1]
+
+
+def as_pair(value):
+    """Return a value as a pair, not always in lowest terms."""
+    if is_integer(value):
+        return value, 1
+    return value
+
+
+def line_up(names, facts):
+    """Return a list of these names that keeps the facts about who comes first, or None if there is a ring."""
+    left = list(names)
+    placed = []
+    while left:
+        waiting = [then for first, then in facts if first in left]
+        free = [name for name in left if name not in waiting]
+        if not free:
+            return None
+        placed = placed + free
+        left = [name for name in left if name in waiting]
+    return placed

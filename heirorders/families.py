@@ -1,6 +1,6 @@
 """Families: who owned what, who died with which will, and who is known to have died before whom."""
 
-from heirorders.basics import is_name, is_number, is_pair, is_sequence, read_number
+from heirorders.basics import is_name, is_number, is_pair, is_sequence, line_up, read_number
 from heirorders.errors import InvalidFamily, InvalidText, NoName
 from heirorders.wills import Will
 
@@ -21,7 +21,7 @@ class Family:
         dead = [name for name, _ in wills]
         if not _are_facts(facts, dead):
             raise InvalidFamily("facts")
-        if _have_ring(facts, dead):
+        if line_up(dead, facts) is None:
             raise InvalidFamily("ring")
         self.people = tuple(people)
         self.wills = tuple(wills)
@@ -134,18 +134,6 @@ def _are_facts(value, dead):
 def _is_fact(first, then, dead):
     """Tell whether any values at all are two different dead people."""
     return first in dead and then in dead and first != then
-
-
-def _have_ring(facts, dead):
-    """Tell whether no order of the deaths keeps these facts."""
-    left = list(dead)
-    while left:
-        waiting = [then for first, then in facts if first in left]
-        stuck = [name for name in left if name in waiting]
-        if len(stuck) == len(left):
-            return True
-        left = stuck
-    return False
 
 
 def _found(pairs, name):

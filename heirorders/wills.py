@@ -1,6 +1,6 @@
 """Wills: who gets which part of what somebody leaves."""
 
-from heirorders.basics import CROWN, is_integer, is_name, is_pair, is_sequence, lowest, plus, read_number
+from heirorders.basics import CROWN, ZERO, is_integer, is_name, is_pair, is_sequence, lowest, plus, read_number
 from heirorders.errors import InvalidText, InvalidWill
 
 WEIGHT_DIGITS = 6
@@ -38,7 +38,7 @@ class Will:
             takers = _takers(groups, alive)
             part = lowest(weight, total * len(takers))
             for name in takers:
-                parts[name] = plus(parts.get(name, (0, 1)), part)
+                parts[name] = plus(parts.get(name, ZERO), part)
         return tuple(sorted(parts.items()))
 
     def __len__(self):
@@ -80,13 +80,20 @@ def _lots(groups):
     return tuple([tuple(sorted(group)) for group in groups])
 
 
+def first_reached(groups, alive):
+    """Return the index of the first group in which somebody is alive, or None."""
+    for at, group in enumerate(groups):
+        if any([name in alive for name in group]):
+            return at
+    return None
+
+
 def _takers(groups, alive):
     """Return who gets a share with these groups."""
-    for group in groups:
-        takers = [name for name in group if name in alive]
-        if takers:
-            return takers
-    return [CROWN]
+    at = first_reached(groups, alive)
+    if at is None:
+        return [CROWN]
+    return [name for name in groups[at] if name in alive]
 
 
 def _share_text(weight, groups):

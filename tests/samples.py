@@ -30,3 +30,21 @@ def odd_values(*right):
     mixed = [[(1, [will, ("bob", [True])]), (None, "ann")], ([[[["bob"]]]], ((((1,),),),))]
     known = [repr(value) for value in right]
     return [value for value in simple + short + deep + mixed if repr(value) not in known]
+
+
+def nine_dead(pattern, facts=()):
+    """Return a family of nine dead people; the pattern tells for each giver whom the will names."""
+    lines = [f"person {name} {100 + 7 * at}" for at, name in enumerate("abcdefghi")]
+    lines += ["person x 0", "person y 5", "person z 0"]
+    for at, name in enumerate("abcdefghi"):
+        parts = [f"{2 + at % 3} {heir}{'+x' * (at % 2)} > y" for heir in pattern.get(name, "")]
+        lines.append(f"will {name} " + " | ".join([*parts, f"{1 + at % 4} {'xyz'[at % 3]}"]))
+    lines += [f"first {first} {then}" for first, then in facts]
+    return Family.read("\n".join(lines))
+
+
+# A row, a star of two middles, rings, and a row that eight facts all but fix.
+NINE = [nine_dead({a: b for a, b in zip("abcdefgh", "bcdefghi")}),
+        nine_dead({"a": "bcd", "e": "afg", "h": "ei"}),
+        nine_dead({"a": "b", "b": "c", "c": "da", "d": "a", "e": "f", "g": "h", "i": "g"}),
+        nine_dead({a: b for a, b in zip("abcdefgh", "bcdefghi")}, ["ab", "bc", "ed", "fe", "cf", "cf", "gh", "ai"])]

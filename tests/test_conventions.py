@@ -1,15 +1,15 @@
-"""[1], [2] and the interface, as far as they speak of errors, wills and families."""
+"""[1], [2] and the interface, as far as they speak of what is there."""
 
 import ast
 import inspect
 import unittest
 from pathlib import Path
 
-from heirorders import errors, families, wills
+from heirorders import cases, deciding, errors, families, orders, papers, wills
 from heirorders.errors import InvalidFamily, InvalidText, InvalidWill, NoName
 from heirorders.families import Family
 from heirorders.wills import Will
-from tests.samples import TEXT, odd_values
+from tests.samples import NINE, TEXT, odd_values
 
 PACKAGE = Path(__file__).resolve().parent.parent / "heirorders"
 
@@ -18,6 +18,31 @@ METHODS = {
     Family: {"own": ["self", "name"], "will_of": ["self", "name"], "with_fact": ["self", "first", "then"],
              "with_own": ["self", "name", "amount"], "read": ["text"]},
 }
+
+FUNCTIONS = {
+    orders: {"is_order": ["family", "value"], "paid": ["family", "order"], "steps": ["family", "order"],
+             "at_once": ["family", "hours"]},
+    cases: {"pairs": ["family"], "case_of": ["family", "order"], "cases": ["family"], "is_case": ["family", "value"],
+            "order_of": ["family", "case"], "paid_in": ["family", "case"]},
+    deciding: {"least": ["family", "name"], "greatest": ["family", "name"], "least_order": ["family", "name"],
+               "greatest_order": ["family", "name"], "settled": ["family"], "surely": ["family"],
+               "possibly": ["family"], "flips": ["family", "name"], "idle": ["family"]},
+    papers: {"paper": ["family", "name", "most"], "paper_holds": ["family", "name", "most", "value"]},
+}
+
+
+def answers(family, name):
+    """Return what the functions of all modules answer about a family."""
+    found = cases.cases(family)
+    order = cases.order_of(family, found[-1])
+    paper = papers.paper(family, name, 10 ** 10)
+    return [orders.is_order(family, order), orders.paid(family, order), orders.steps(family, order),
+            orders.at_once(family, [order]), cases.pairs(family), cases.case_of(family, order), found,
+            cases.is_case(family, found[0]), order, cases.paid_in(family, found[0]), deciding.least(family, name),
+            deciding.greatest(family, name), deciding.least_order(family, name),
+            deciding.greatest_order(family, name), deciding.settled(family), deciding.surely(family),
+            deciding.possibly(family), deciding.flips(family, name), deciding.idle(family), paper,
+            papers.paper_holds(family, name, 10 ** 10, paper)]
 
 
 class EqualToAll:
@@ -90,6 +115,12 @@ class Sequences(unittest.TestCase):
             for value in (changed.people, changed.wills, changed.facts):
                 self.only_tuples(value)
 
+    def test_answers_are_tuples(self):
+        for family, name in ((Family.read(TEXT), "dan"), (NINE[2], "x"), (Family([("ann", 1)]), "ann")):
+            for answer in answers(family, name):
+                self.assertIsInstance(answer, (tuple, bool))
+                self.only_tuples(answer)
+
     def test_lists_that_are_changed_later(self):
         group, groups = ["b", "a"], [["c"]]
         groups.append(group)
@@ -119,6 +150,29 @@ class Sequences(unittest.TestCase):
         copies = list(people), list(entries), list(facts)
         Family(people, entries, facts).with_own("a", 3)
         self.assertEqual((people, entries, facts), copies)
+
+    def test_lists_stay_as_they_were(self):
+        family = Family.read(TEXT)
+        order, short, hours = ["cid", "ann", "bob"], ["bob", "bob"], [["cid"], ["bob", "ann"]]
+        orders.paid(family, order)
+        orders.steps(family, order)
+        orders.at_once(family, hours)
+        cases.case_of(family, order)
+        self.assertRaises(errors.InvalidOrder, orders.paid, family, short)
+        spoilt = [(["ann"], [1, 2])]
+        self.assertIs(papers.paper_holds(family, "dan", 18, spoilt), False)
+        self.assertIs(cases.is_case(family, spoilt), False)
+        self.assertEqual((order, short), (["cid", "ann", "bob"], ["bob", "bob"]))
+        self.assertEqual((hours, spoilt), ([["cid"], ["bob", "ann"]], [(["ann"], [1, 2])]))
+
+    def test_results_do_not_change_with_lists(self):
+        family = Family.read(TEXT)
+        order, hours = ["cid", "ann", "bob"], [["cid"], ["bob", "ann"]]
+        results = orders.paid(family, order), orders.steps(family, order), orders.at_once(family, hours)
+        texts = repr(results)
+        order.reverse()
+        hours[1].pop()
+        self.assertEqual(repr(results), texts)
 
     def test_not_iterable(self):
         for thing in (Will.read("1 a | 2"), Family.read(TEXT)):
@@ -157,10 +211,22 @@ class Repeating(unittest.TestCase):
 
         before = results()
         self.assertEqual(results(), before)
-        for call in (lambda: family.own("x"), lambda: family.with_fact("ann", "ann"), lambda: family + family,
+        for call in (lambda: orders.paid(family, ["ann"]), lambda: cases.order_of(family, ()),
+                     lambda: deciding.flips(family, "ann"), lambda: papers.paper(family, "zoe", 1),
+                     lambda: family.own("x"), lambda: family.with_fact("ann", "ann"), lambda: family + family,
                      lambda: family.with_own("ann", -1), lambda: Will.read("0"), lambda: Family.read("")):
             self.assertRaises((ValueError, KeyError), call)
             self.assertEqual(results(), before)
+
+    def test_same_answers(self):
+        family = Family.read(TEXT)
+        before = answers(family, "dan")
+        text = str(family)
+        others = answers(NINE[3], "crown")
+        self.assertEqual(answers(family, "dan"), before)
+        self.assertEqual(answers(Family.read(TEXT), "dan"), before)
+        self.assertEqual(answers(NINE[3], "crown"), others)
+        self.assertEqual(str(family), text)
 
 
 class Interface(unittest.TestCase):
@@ -186,6 +252,19 @@ class Interface(unittest.TestCase):
             for name, expected in methods.items():
                 self.assertEqual(list(inspect.signature(getattr(made, name)).parameters),
                                  [each for each in expected if each != "self"] if name == "read" else expected)
+
+    def test_functions(self):
+        for module, functions in FUNCTIONS.items():
+            for name, expected in functions.items():
+                function = getattr(module, name)
+                self.assertEqual(list(inspect.signature(function).parameters), expected)
+                self.assertEqual(function.__module__, module.__name__)
+
+    def test_example_of_the_overview(self):
+        family = Family.read(TEXT)
+        self.assertEqual((cases.pairs(family), len(cases.cases(family)), deciding.least(family, "eve"),
+                          deciding.greatest(family, "dan"), deciding.settled(family)),
+                         ((("ann", "bob"), ("ann", "cid")), 4, (0, 1), (18, 1), ("crown",)))
 
     def test_methods_stand_in_their_class(self):
         for made, methods in METHODS.items():

@@ -20,13 +20,7 @@ def case_of(family, order):
 
 def cases(family):
     """Return the ascending cases of all orders."""
-    found = [()]
-    # They stay ascending, since (a, b) comes before (b, a). A beginning without a ring can
-    # always be continued, so no more beginnings are kept than there are cases.
-    for a, b in pairs(family):
-        longer = [(*case, way) for case in found for way in ((a, b), (b, a))]
-        found = [case for case in longer if _lined_up(family, case) is not None]
-    return tuple(found)
+    return tuple(open_ways(family.dead, family.facts, pairs(family)))
 
 
 def is_case(family, value):
@@ -49,6 +43,17 @@ def order_of(family, case):
 def paid_in(family, case):
     """Return what the living and the crown are paid in this case."""
     return paid(family, order_of(family, case))
+
+
+def open_ways(dead, facts, known):
+    """Return the ascending tuples of one direction for each of the known pairs that make no ring with the facts."""
+    found = [()] if line_up(dead, facts) is not None else []
+    # They stay ascending, since (a, b) comes before (b, a). A beginning without a ring can
+    # always be continued, so no more beginnings are kept than there are tuples in the end.
+    for a, b in known:
+        longer = [(*ways, way) for ways in found for way in ((a, b), (b, a))]
+        found = [ways for ways in longer if line_up(dead, facts + ways) is not None]
+    return found
 
 
 def _lined_up(family, ways):

@@ -63,10 +63,15 @@ def idle(family):
     return tuple(sorted([triple for triple in groups if triple not in reached]))
 
 
-def amounts_in_cases(family, name):
-    """Return for each case, ascending, the pair of it and what this name is paid in it."""
+def require_name(family, name):
+    """Raise NoName if any value at all is no living person and not the crown."""
     if name not in (*family.living, CROWN):
         raise NoName(name)
+
+
+def amounts_in_cases(family, name):
+    """Return for each case, ascending, the pair of it and what this name is paid in it."""
+    require_name(family, name)
     return tuple([(case, dict(paid_in(family, case))[name]) for case in cases(family)])
 
 

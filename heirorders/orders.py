@@ -69,6 +69,11 @@ def held_after(held, group, gifts):
     return left
 
 
+def is_early(facts, name, before):
+    """Tell whether this person must die after somebody who is not among those before."""
+    return any([then == name and first not in before for first, then in facts])
+
+
 def _wrong_at(family, value):
     """Return the first place where any value at all shows that it is no order, or None if it is one."""
     if not is_sequence(value):
@@ -76,13 +81,8 @@ def _wrong_at(family, value):
     dead = family.dead
     for at, name in enumerate(value):
         before = value[:at]
-        if name not in dead or name in before or _is_early(family.facts, name, before):
+        if name not in dead or name in before or is_early(family.facts, name, before):
             return at
     if len(value) < len(dead):
         return len(value)
     return None
-
-
-def _is_early(facts, name, before):
-    """Tell whether this person must die after somebody who is not among those before."""
-    return any([then == name and first not in before for first, then in facts])

@@ -1,7 +1,9 @@
 """Values that several tests pass."""
 
 from heirorders import errors
+from heirorders.desk import Desk
 from heirorders.families import Family
+from heirorders.live import Live
 from heirorders.wills import Will
 
 LINES = ["person ann 12", "person bob 0", "person cid 6", "person dan 0", "person eve 0",
@@ -22,7 +24,7 @@ def odd_values(*right):
     will = Will([(1, [["bob"]])])
     family = Family([("ann", 1)])
     simple = [0, 1, -1, 10 ** 9, True, False, None, "", "crown", "Ann", "annabe", "a1", "zoe", " ann", "ann\n",
-              "1 bob", "person ann 1", will, family, errors.NoName("ann"), errors.Mismatch()]
+              "1 bob", "person ann 1", will, family, Live(family), Desk(), errors.NoName("ann"), errors.Mismatch()]
     short = [[], (), [None], (1,), ("ann",), ["ann"], ("ann", "bob", "cid"), ["ann", 1], ["ann", "bob"], [("ann",)],
              [("ann", "bob", "cid")], [["ann", 1]], [["ann", "bob"]], (will, family), [[], ()], ("ann", "ann"),
              (1, []), ("ann", None), (None, 1), (True, []), ("ann", True)]

@@ -5,11 +5,13 @@ import inspect
 import unittest
 from pathlib import Path
 
-from heirorders import cases, deciding, errors, families, orders, papers, wills
+from heirorders import cases, comparing, deciding, desk, errors, families, live, orders, papers, settling, wills
+from heirorders.desk import Desk
 from heirorders.errors import InvalidFamily, InvalidText, InvalidWill, NoName
 from heirorders.families import Family
+from heirorders.live import Live
 from heirorders.wills import Will
-from tests.samples import NINE, TEXT, odd_values
+from tests.samples import LINES, NINE, TEXT, odd_values
 
 PACKAGE = Path(__file__).resolve().parent.parent / "heirorders"
 
@@ -17,7 +19,15 @@ METHODS = {
     Will: {"heirs": ["self", "alive"], "read": ["text"]},
     Family: {"own": ["self", "name"], "will_of": ["self", "name"], "with_fact": ["self", "first", "then"],
              "with_own": ["self", "name", "amount"], "read": ["text"]},
+    Live: {"die": ["self", "name"], "several": ["self", "names"], "learn": ["self", "first", "then"], "undo": ["self"],
+           "within": ["self", "work"]},
+    Desk: {"say": ["self", "command"]},
 }
+
+PROPERTIES = {Will: ["names"], Family: ["names", "dead", "living"], Live: ["order", "alive", "held"]}
+
+SPECIAL = {Will: ["__init__", "__len__", "__eq__", "__str__"], Family: ["__init__", "__add__", "__eq__", "__str__"],
+           Live: ["__init__", "__len__"], Desk: ["__init__"]}
 
 FUNCTIONS = {
     orders: {"is_order": ["family", "value"], "paid": ["family", "order"], "steps": ["family", "order"],
@@ -28,6 +38,8 @@ FUNCTIONS = {
                "greatest_order": ["family", "name"], "settled": ["family"], "surely": ["family"],
                "possibly": ["family"], "flips": ["family", "name"], "idle": ["family"]},
     papers: {"paper": ["family", "name", "most"], "paper_holds": ["family", "name", "most", "value"]},
+    settling: {"settlers": ["family", "name"], "cases_for": ["family", "amounts"], "sure_facts": ["family", "amounts"]},
+    comparing: {"alike": ["p", "q"], "parting": ["p", "q"]},
 }
 
 
@@ -42,7 +54,11 @@ def answers(family, name):
             deciding.greatest(family, name), deciding.least_order(family, name),
             deciding.greatest_order(family, name), deciding.settled(family), deciding.surely(family),
             deciding.possibly(family), deciding.flips(family, name), deciding.idle(family), paper,
-            papers.paper_holds(family, name, 10 ** 10, paper)]
+            papers.paper_holds(family, name, 10 ** 10, paper), settling.settlers(family, name),
+            settling.cases_for(family, [(name, deciding.least(family, name))]),
+            settling.sure_facts(family, [(name, deciding.greatest(family, name))]),
+            comparing.alike(family, family.with_own(name, 77) if name != "crown" else family),
+            comparing.parting(family, Family([(each, 77) for each in family.names], family.wills))]
 
 
 class EqualToAll:
@@ -121,6 +137,15 @@ class Sequences(unittest.TestCase):
                 self.assertIsInstance(answer, (tuple, bool))
                 self.only_tuples(answer)
 
+    def test_live_families_give_tuples(self):
+        live = Live(Family.read(TEXT))
+        for value in (live.order, live.alive, live.held, live.die("cid"), live.several(["ann", "bob"]), live.order,
+                      live.alive, live.held, live.family.facts):
+            self.assertIs(type(value), tuple)
+            self.only_tuples(value)
+        self.assertIs(type(len(live)), int)
+        self.assertIs(live.undo(), True)
+
     def test_lists_that_are_changed_later(self):
         group, groups = ["b", "a"], [["c"]]
         groups.append(group)
@@ -175,7 +200,7 @@ class Sequences(unittest.TestCase):
         self.assertEqual(repr(results), texts)
 
     def test_not_iterable(self):
-        for thing in (Will.read("1 a | 2"), Family.read(TEXT)):
+        for thing in (Will.read("1 a | 2"), Family.read(TEXT), Live(Family.read(TEXT)), Desk()):
             self.assertRaises(TypeError, iter, thing)
             self.assertRaises(TypeError, list, thing)
             with self.assertRaises(TypeError):
@@ -218,6 +243,40 @@ class Repeating(unittest.TestCase):
             self.assertRaises((ValueError, KeyError), call)
             self.assertEqual(results(), before)
 
+    def test_live_families_and_desks_change_only_as_described(self):
+        family = Family.read(TEXT)
+        live, teller = Live(family), Desk()
+        teller.say("family " + " ; ".join(LINES))
+
+        def results():
+            return (live.family, live.order, live.alive, live.held, len(live), teller.live.family, teller.live.held,
+                    teller.say("held ann"), teller.say("settled"), teller.say("greatest dan"), teller.live.order)
+
+        before = results()
+        for call in (lambda: live.die("dan"), lambda: live.several(["ann", "dan"]), lambda: live.learn("ann", "ann"),
+                     lambda: live.within(lambda given: (given.die("ann"), given.die("ann"))),
+                     lambda: teller.say("die dan"), lambda: teller.say("learn ann dan"), lambda: teller.say("quit"),
+                     lambda: teller.say("family person"), lambda: teller.say("held zoe")):
+            self.assertRaises((ValueError, KeyError), call)
+            self.assertEqual(results(), before)
+        live.die("ann")
+        self.assertEqual((teller.live.order, teller.live.alive), ((), family.names))
+
+    def test_families_and_wills_stay_as_they_are(self):
+        for family, name in ((Family.read(TEXT), "dan"), (NINE[0], "x")):
+            things = [family, *[will for _, will in family.wills]]
+            before = [dict(vars(thing)) for thing in things]
+            answers(family, name)
+            live = Live(family)
+            live.die(family.dead[-1])
+            live.learn(family.dead[-1], family.dead[0])
+            live.undo()
+            # No name more, and the very same tuples under the old ones.
+            self.assertEqual([list(vars(thing)) for thing in things], [list(known) for known in before])
+            for thing, known in zip(things, before):
+                for attribute in known:
+                    self.assertIs(getattr(thing, attribute), known[attribute])
+
     def test_same_answers(self):
         family = Family.read(TEXT)
         before = answers(family, "dan")
@@ -248,6 +307,8 @@ class Interface(unittest.TestCase):
         parameters = inspect.signature(Family).parameters
         self.assertEqual([(name, parameters[name].default) for name in parameters],
                          [("people", inspect.Parameter.empty), ("wills", ()), ("facts", ())])
+        self.assertEqual(list(inspect.signature(Live).parameters), ["family"])
+        self.assertEqual(list(inspect.signature(Desk).parameters), [])
         for made, methods in METHODS.items():
             for name, expected in methods.items():
                 self.assertEqual(list(inspect.signature(getattr(made, name)).parameters),
@@ -268,14 +329,11 @@ class Interface(unittest.TestCase):
 
     def test_methods_stand_in_their_class(self):
         for made, methods in METHODS.items():
-            for name in list(methods) + ["__init__", "__eq__", "__str__", "names"]:
+            for name in list(methods) + PROPERTIES.get(made, []) + SPECIAL[made]:
                 self.assertIn(name, vars(made))
-        for name in ("dead", "living"):
-            self.assertIsInstance(vars(Family)[name], property)
-        self.assertIsInstance(vars(Will)["names"], property)
-        self.assertIsInstance(vars(Family)["names"], property)
-        self.assertIn("__len__", vars(Will))
-        self.assertIn("__add__", vars(Family))
+        for made, names in PROPERTIES.items():
+            for name in names:
+                self.assertIsInstance(vars(made)[name], property)
         for made in (Will, Family):
             self.assertIsInstance(vars(made)["read"], classmethod)
 
@@ -283,6 +341,9 @@ class Interface(unittest.TestCase):
         self.assertEqual((Will.__module__, Family.__module__), ("heirorders.wills", "heirorders.families"))
         self.assertIs(wills.Will, Will)
         self.assertIs(families.Family, Family)
+        self.assertEqual((Live.__module__, Desk.__module__), ("heirorders.live", "heirorders.desk"))
+        self.assertIs(live.Live, Live)
+        self.assertIs(desk.Desk, Desk)
         for name in ("HeirError", "InvalidWill", "InvalidFamily", "InvalidText", "InvalidOrder", "InvalidCase",
                      "InvalidCommand", "Mismatch", "Refused", "NoName"):
             self.assertEqual(getattr(errors, name).__module__, "heirorders.errors")
@@ -290,6 +351,8 @@ class Interface(unittest.TestCase):
     def test_attributes_are_set_on_each_object(self):
         self.assertEqual(list(vars(Will.read("1"))), ["shares"])
         self.assertEqual(set(vars(Family.read(TEXT))), {"people", "wills", "facts"})
+        self.assertIn("family", vars(Live(Family.read(TEXT))))
+        self.assertEqual(vars(Desk()), {"live": None})
 
     def test_package_file_contains_only_a_docstring(self):
         body = ast.parse((PACKAGE / "__init__.py").read_text()).body

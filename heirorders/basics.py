@@ -64,11 +64,6 @@ def times(left, right):
     return lowest(left[0] * right[0], left[1] * right[1])
 
 
-def apart(left, right):
-    """Return how far two values that are pairs are from each other."""
-    return lowest(abs(left[0] * right[1] - right[0] * left[1]), left[1] * right[1])
-
-
 def is_less(left, right):
     """Tell whether the first of two values that are pairs is the smaller one."""
     return left[0] * right[1] < right[0] * left[1]

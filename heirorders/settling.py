@@ -1,25 +1,25 @@
 """Which further facts settle an amount, and what the paid amounts tell about the order."""
 
-from heirorders.basics import as_pair, lowest
-from heirorders.cases import cases, paid_in, pairs
-from heirorders.deciding import amounts_in_cases, require_name
+from heirorders.basics import as_pair
+from heirorders.cases import bit_of, directed_cases, paid_in_all, pairs
+from heirorders.deciding import paid_to, require_name
 
 
 def settlers(family, name):
     """Return the least sets of at most two further facts with which this name is paid the same in all orders."""
-    entries = amounts_in_cases(family, name)
+    found, _, amounts = paid_to(family, name)
+    entries = [(bits, amount) for (_, bits, _), amount in zip(found, amounts)]
     if _are_settled(entries):
         return ((),)
     single = []
     left = []
-    for at, (a, b) in enumerate(pairs(family)):
-        for fact in ((a, b), (b, a)):
-            kept = _kept(entries, at, fact)
-            if _are_settled(kept):
-                single.append((fact,))
-            elif kept:
-                # Only a fact that is possible, but not enough, can be one of two.
-                left.append((at, fact, kept))
+    for fact, bit, digit in _ways(pairs(family)):
+        kept = _kept(entries, bit, digit)
+        if _are_settled(kept):
+            single.append((fact,))
+        elif kept:
+            # Only a fact that is possible, but not enough, can be one of two.
+            left.append((fact, bit, digit, kept))
     return tuple(sorted(single) + sorted(_settling_couples(left)))
 
 
@@ -27,8 +27,13 @@ def cases_for(family, amounts):
     """Return the ascending cases in which exactly these amounts are paid to these names."""
     for name, _ in amounts:
         require_name(family, name)
-    wanted = [(name, _lowest_value(value)) for name, value in amounts]
-    return tuple([case for case in cases(family) if _pays(dict(paid_in(family, case)), wanted)])
+    found = directed_cases(family)
+    parts, paid = paid_in_all(family, found)
+    left = list(range(len(found)))
+    for name, value in amounts:
+        above, below = as_pair(value)
+        left = [at for at in left if paid[name][at] * below == above * parts]
+    return tuple([found[at][0] for at in left])
 
 
 def sure_facts(family, amounts):
@@ -39,9 +44,18 @@ def sure_facts(family, amounts):
     return tuple(sorted([way for at, way in enumerate(found[0]) if all([case[at] == way for case in found])]))
 
 
-def _kept(entries, at, fact):
-    """Return those entries whose case has this direction at this index."""
-    return [(case, amount) for case, amount in entries if case[at] == fact]
+def _ways(known):
+    """Return both directions of all known pairs, each with the bit of the pair and what is there of it."""
+    found = []
+    for at, (a, b) in enumerate(known):
+        bit = bit_of(known, at)
+        found = found + [((a, b), bit, 0), ((b, a), bit, bit)]
+    return found
+
+
+def _kept(entries, bit, digit):
+    """Return those entries whose bits have just this of this bit."""
+    return [(bits, amount) for bits, amount in entries if bits & bit == digit]
 
 
 def _are_settled(entries):
@@ -50,21 +64,10 @@ def _are_settled(entries):
 
 
 def _settling_couples(left):
-    """Return which two of these facts, each with its index and the entries that it leaves, settle the amount."""
+    """Return which two of these facts, each with what `_ways` tells and the entries that it leaves, are enough."""
     found = []
-    for place, (_, fact, kept) in enumerate(left):
-        for at, other, _ in left[place + 1:]:
-            if _are_settled(_kept(kept, at, other)):
+    for at, (fact, _, _, kept) in enumerate(left):
+        for other, bit, digit, _ in left[at + 1:]:
+            if _are_settled(_kept(kept, bit, digit)):
                 found.append(tuple(sorted((fact, other))))
     return found
-
-
-def _lowest_value(value):
-    """Return a value as a pair in lowest terms."""
-    above, below = as_pair(value)
-    return lowest(above, below)
-
-
-def _pays(paid, wanted):
-    """Tell whether these names are paid exactly the wanted amounts."""
-    return all([paid[name] == value for name, value in wanted])

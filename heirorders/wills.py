@@ -38,7 +38,7 @@ class Will:
             takers = _takers(groups, alive)
             part = lowest(weight, total * len(takers))
             for name in takers:
-                parts[name] = plus(parts.get(name, ZERO), part)
+                parts[name] = plus(parts[name], part) if name in parts else part
         return tuple(sorted(parts.items()))
 
     def __len__(self):
@@ -83,17 +83,19 @@ def _lots(groups):
 def first_reached(groups, alive):
     """Return the index of the first group in which somebody is alive, or None."""
     for at, group in enumerate(groups):
-        if any([name in alive for name in group]):
-            return at
+        for name in group:
+            if name in alive:
+                return at
     return None
 
 
 def _takers(groups, alive):
     """Return who gets a share with these groups."""
-    at = first_reached(groups, alive)
-    if at is None:
-        return [CROWN]
-    return [name for name in groups[at] if name in alive]
+    for group in groups:
+        takers = [name for name in group if name in alive]
+        if takers:
+            return takers
+    return [CROWN]
 
 
 def _share_text(weight, groups):

@@ -22,7 +22,11 @@ def case_of(family, order):
 
 def cases(family):
     """Return the ascending cases of all orders."""
-    return tuple([case for case, _, _ in directed_cases(family)])
+    known = pairs(family)
+    if not known:
+        # Then there is nothing to direct, whatever the facts are.
+        return ((),)
+    return tuple([case for case, _, _ in directed(family.dead, family.facts, known)])
 
 
 def is_case(family, value):
